@@ -1,0 +1,1 @@
+"""Alarms in wheels of wheels that ring at just their ticks."""
