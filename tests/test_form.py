@@ -28,6 +28,12 @@ NODES = (
     ast.expr_context, ast.operator, ast.unaryop, ast.boolop, ast.cmpop,
 )
 
+OWN_METHODS = set(
+    "append clear copy count endswith extend find get index insert isalnum isalpha isdigit islower isspace isupper "
+    "items join keys ljust lower lstrip partition pop remove replace reverse rfind rjust rpartition rsplit rstrip "
+    "setdefault split splitlines startswith strip update upper values zfill bit_length".split()
+)
+
 METHODS_WITH_UNDERSCORES = ("__init__", "__eq__", "__repr__", "__str__", "__len__")
 
 
@@ -58,6 +64,33 @@ def names_at_top(path):
             found.extend(target.id for target in node.targets)
         elif isinstance(node, (ast.FunctionDef, ast.ClassDef)):
             found.append(node.name)
+    return found
+
+
+def methods(path):
+    found = []
+    for node in nodes(path):
+        if isinstance(node, ast.ClassDef):
+            found.extend(part.name for part in node.body if isinstance(part, ast.FunctionDef))
+    return found
+
+
+def values(path):
+    """The names that objects are given values under."""
+    return [node.attr for node in nodes(path) if isinstance(node, ast.Attribute) and isinstance(node.ctx, ast.Store)]
+
+
+def drawn_from(path):
+    """The files that a file imports from, in however many steps."""
+    found = []
+    ahead = [path]
+    while ahead:
+        for node in nodes(ahead.pop()):
+            if isinstance(node, ast.ImportFrom):
+                source = PACKAGE / (node.module.split(".")[1] + ".py")
+                if source not in found:
+                    found.append(source)
+                    ahead.append(source)
     return found
 
 
@@ -123,6 +156,28 @@ class Form(unittest.TestCase):
                 for name in names_bound(node):
                     if name not in METHODS_WITH_UNDERSCORES:
                         self.assertFalse(name.startswith("_"), (path, name))
+
+    def test_no_two_files_draw_from_one_another(self):
+        for path in files():
+            self.assertNotIn(path, drawn_from(path))
+
+    def test_no_name_is_a_method_and_a_value(self):
+        all_methods = {name for path in files() for name in methods(path)}
+        all_values = {name for path in files() for name in values(path)}
+        self.assertEqual(all_methods & all_values, set())
+
+    def test_of_methods_only_own_ones_and_those_allowed(self):
+        own = {name for path in files() for name in methods(path)}
+        for path in files():
+            for node in nodes(path):
+                if isinstance(node, ast.Call) and isinstance(node.func, ast.Attribute):
+                    self.assertIn(node.func.attr, own | OWN_METHODS, (path, node.lineno))
+
+    def test_is_stands_beside_none_true_and_false_alone(self):
+        for path in files():
+            for node in nodes(path):
+                if isinstance(node, ast.Compare) and isinstance(node.ops[0], (ast.Is, ast.IsNot)):
+                    self.assertIn(ast.unparse(node.comparators[0]), ("None", "True", "False"), (path, node.lineno))
 
 
 if __name__ == "__main__":
